@@ -1,7 +1,10 @@
+"""Whole lines: how they are read and answered, what goes before a begin, and what stays as it is."""
+
 import unittest
 
 from tests.lines import (
-    BETTER, HUGE, REST, RESTS, WORTH, act, begin, last, pays, run, seen, send, wants, weight,
+    BETTER, ENVIES, HONEST, HUGE, NOTHING, QUESTIONS, RESTS, SIZES, STATE, WORTH, act, apart, begin, last, pays, run,
+    seen, send, wants, weight,
 )
 from twowants.signs import answers
 
@@ -15,13 +18,23 @@ OTHERS = [
     wants([]), wants([1]), wants([10]), wants([HUGE] * 255),
     send([]), send([0]), send([HUGE] * 255),
     act([]), act([0]), act([HUGE] * 255),
-    WORTH, REST, BETTER, RESTS,
-] + [[number] for number in range(10, 19)]
+] + QUESTIONS
 
 CHANGED = [
     begin(2, 3, 2), weight(0, 4), weight(1, 7), pays([1, 2, 3, 4]), wants([9, 8, 7, 6]),
     send([2, 1]), act([1, 0, 1]),
 ]
+
+
+def refuse(self, *given):
+    raise AssertionError("what is handed in is changed")
+
+
+class Watched(list):
+    """A list that doesn't let itself be changed, not for a while either."""
+
+    __setitem__ = __delitem__ = __iadd__ = __imul__ = refuse
+    append = clear = extend = insert = pop = remove = reverse = sort = refuse
 
 
 class Line(unittest.TestCase):
@@ -49,6 +62,7 @@ class Line(unittest.TestCase):
     def test_a_refused_begin_does_not_begin(self):
         for call in BAD_BEGINS:
             self.assertEqual(run([call, WORTH, weight(9, 10), RESTS]), [[-22], [-11], [-11], [-11]], call)
+            self.assertEqual(run([call] + QUESTIONS), [[-22]] + [[-11]] * 13, call)
             self.assertEqual(last([call, begin(1, 1, 1)]), [0], call)
 
     def test_a_refused_begin_leaves_what_has_begun(self):
@@ -56,6 +70,7 @@ class Line(unittest.TestCase):
         for call in BAD_BEGINS:
             self.assertEqual(last(CHANGED + [call]), [-22], call)
             self.assertEqual(seen(CHANGED + [call], 2, 3, 2), before, call)
+            self.assertEqual(run(CHANGED + [call] + QUESTIONS)[-13:], run(CHANGED + QUESTIONS)[-13:], call)
 
     def test_lists_are_read_to_their_ends(self):
         # Numbers within a list that look like calls are none.
@@ -66,14 +81,24 @@ class Line(unittest.TestCase):
         line = [begin(3, 3, 3)] + [pays([HUGE] * 255)] * 39
         self.assertEqual(run(line), [[0]] + [[-22]] * 39)
 
+    def test_every_call_is_answered(self):
+        for sizes in SIZES:
+            told = run([begin(*sizes)] + OTHERS[:18] + QUESTIONS)
+            self.assertTrue(all(each and each[0] in (-2, -22) or min(each) >= 0 for each in told[:19]), sizes)
+            for call, each in zip(QUESTIONS, told[19:]):
+                refused = call in (HONEST, ENVIES) and sizes[1] < sizes[0]
+                self.assertTrue(each == [-33] if refused else min(each) >= 0, (sizes, call, each))
+
     def test_what_is_handed_in_stays(self):
-        handed = [number for call in CHANGED + [weight(0, 9), RESTS, BETTER] for number in call]
+        line = CHANGED + [weight(0, 9), weight(1, 3), BETTER, NOTHING] + QUESTIONS
+        handed = Watched([number for call in line for number in call])
         before = list(handed)
-        answers(handed)
+        told = answers(handed)
         self.assertEqual(handed, before)
+        self.assertEqual(apart(told, len(line)), run(line))
 
     def test_twice_the_same(self):
-        handed = [number for call in CHANGED + [WORTH, REST, BETTER, RESTS] for number in call]
+        handed = [number for call in CHANGED + QUESTIONS for number in call]
         first = answers(handed)
         kept = list(first)
         self.assertEqual(answers(handed), first)
@@ -84,4 +109,5 @@ class Line(unittest.TestCase):
     def test_nothing_is_kept_from_line_to_line(self):
         run(CHANGED)
         self.assertEqual(run([WORTH]), [[-11]])
+        self.assertEqual(run([STATE]), [[-11]])
         self.assertEqual(run([begin(2, 2, 2), WORTH]), [[0], [1, 1, 2]])

@@ -1,68 +1,11 @@
 """rests, and lines of calls at random, held against a plain count over all plans."""
 
-import itertools
 import random
 import unittest
 
-from tests.lines import BETTER, REST, RESTS, SIZES, WORTH, act, begin, last, pays, run, send, wants, weight
-
-
-class Plain:
-    """An object by the document's words alone: every other plan is tried out."""
-
-    def __init__(self, n, m, k):
-        plain = [1 if s == a else 0 for s in range(n) for a in range(k)]
-        self.n, self.m, self.k = n, m, k
-        self.weights, self.pays, self.wants = [1] * n, plain, plain
-        self.signs, self.acts = (0,) * n, (0,) * m
-
-    def all_signs(self):
-        return list(itertools.product(range(self.m), repeat=self.n))
-
-    def all_acts(self):
-        return list(itertools.product(range(self.k), repeat=self.m))
-
-    def worth(self, numbers, signs, acts):
-        return sum(self.weights[s] * numbers[s * self.k + acts[signs[s]]] for s in range(self.n))
-
-    def rests(self):
-        plans = list(itertools.product(self.all_signs(), self.all_acts()))
-        to_giver = {plan: self.worth(self.wants, *plan) for plan in plans}
-        to_actor = {plan: self.worth(self.pays, *plan) for plan in plans}
-        found = [
-            signs for signs, acts in plans
-            if not any(to_giver[other, acts] > to_giver[signs, acts] for other in self.all_signs())
-            and not any(to_actor[signs, other] > to_actor[signs, acts] for other in self.all_acts())
-        ]
-        return [len(found), max(len(set(signs)) for signs in found)]
-
-    def told(self):
-        """What worth, rest and better answer."""
-        to_actor = self.worth(self.pays, self.signs, self.acts)
-        to_giver = self.worth(self.wants, self.signs, self.acts)
-        by_signs = max(self.worth(self.wants, signs, self.acts) for signs in self.all_signs())
-        by_acts = max(self.worth(self.pays, self.signs, acts) for acts in self.all_acts())
-        rest = 1 if by_signs <= to_giver and by_acts <= to_actor else 0
-        return [[to_actor, to_giver, sum(self.weights)], [rest], [by_signs, by_acts]]
-
-
-def set_all(plain):
-    """The calls that bring a new object to where the plain one is."""
-    line = [begin(plain.n, plain.m, plain.k)]
-    line += [weight(s, plain.weights[s]) for s in range(plain.n)]
-    return line + [pays(plain.pays), wants(plain.wants), send(list(plain.signs)), act(list(plain.acts))]
-
-
-def at_random(source, sizes, most):
-    """A plain object with numbers up to this one, few enough that many are alike."""
-    plain = Plain(*sizes)
-    n, m, k = sizes
-    plain.weights = [source.randint(1, 9) for s in range(n)]
-    plain.pays = [source.randint(0, most) for at in range(n * k)]
-    plain.wants = [source.randint(0, most) for at in range(n * k)]
-    plain.signs = tuple(source.randrange(m) for s in range(n))
-    plain.acts = tuple(source.randrange(k) for j in range(m))
-    return plain
+from tests.lines import (
+    BETTER, REST, RESTS, SIZES, WORTH, Plain, act, at_random, begin, last, pays, run, send, set_all, wants, weight,
+)
 
 
 class ByHand(unittest.TestCase):

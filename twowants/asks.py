@@ -1,11 +1,14 @@
 """The calls: each takes the table and a list of what is handed in, and answers a list."""
 
-from twowants.plans import most_to_actor, most_to_giver, plans_at_rest, rests_for_both, told_apart, worth_by
+from twowants.honesty import envious_twos, honest_plan, nothing_plan
+from twowants.plans import best_to_actor, most_to_actor, most_to_giver, plans_at_rest, rests_for_both
+from twowants.plans import told_apart, worth_by, worths_by
 
 BEGIN = 0
 NO_SUCH_WAY = -2
 NOT_BEGUN = -11
 NOT_RIGHT = -22
+CANNOT_BE = -33
 
 
 def all_within(row, low, high):
@@ -70,11 +73,26 @@ def set_acts(table, row):
     return [0]
 
 
+def both_worths(table, plan):
+    """What a plan is worth to who acts, then to who gives signs."""
+    to_actor = worth_by(table, table.pays, plan[0], plan[1])
+    to_giver = worth_by(table, table.wants, plan[0], plan[1])
+    return [to_actor, to_giver]
+
+
+def whole_plan(table, plan):
+    """A plan as it is answered: both worths, its signs, its acts."""
+    return both_worths(table, plan) + plan[0] + plan[1]
+
+
+def first_with_most(found, counts):
+    """The first of these plans whose count is the most."""
+    return found[counts.index(max(counts))]
+
+
 def tell_worth(table, row):
     """The plan's worth to who acts, to who gives signs, and all weights together."""
-    to_actor = worth_by(table, table.pays, table.given, table.done)
-    to_giver = worth_by(table, table.wants, table.given, table.done)
-    return [to_actor, to_giver, sum(table.weights)]
+    return both_worths(table, (table.given, table.done)) + [sum(table.weights)]
 
 
 def tell_rest(table, row):
@@ -89,9 +107,71 @@ def tell_better(table, row):
 
 def tell_rests(table, row):
     """How many plans are at rest for both, and the most that one of them tells apart."""
-    # There is always one: to tell nothing is at rest for both.
     found = plans_at_rest(table)
     return [len(found), max([told_apart(plan[0]) for plan in found])]
+
+
+def tell_mosttold(table, row):
+    """Of the plans at rest the first by which most are told apart."""
+    found = plans_at_rest(table)
+    return whole_plan(table, first_with_most(found, [told_apart(plan[0]) for plan in found]))
+
+
+def tell_bestgiver(table, row):
+    """Of the plans at rest the first that is worth most to who gives signs."""
+    found = plans_at_rest(table)
+    return whole_plan(table, first_with_most(found, worths_by(table, table.wants, found)))
+
+
+def tell_bestactor(table, row):
+    """Of the plans at rest the first that is worth most to who acts."""
+    found = plans_at_rest(table)
+    return whole_plan(table, first_with_most(found, worths_by(table, table.pays, found)))
+
+
+def tell_nothing(table, row):
+    """What telling nothing is worth to both, and its plan."""
+    return whole_plan(table, nothing_plan(table))
+
+
+def tell_honest(table, row):
+    """Whether honesty is at rest for both, and what it's worth to both."""
+    if table.signs < table.ways:
+        return [CANNOT_BE]
+    plan = honest_plan(table)
+    at_rest = 1 if rests_for_both(table, plan[0], plan[1]) else 0
+    return [at_rest] + both_worths(table, plan)
+
+
+def tell_envies(table, row):
+    """How many twos of ways there are of which the first envies the second, then these."""
+    if table.signs < table.ways:
+        return [CANNOT_BE]
+    twos = envious_twos(table)
+    told = [len(twos)]
+    for two in twos:
+        told.extend(two)
+    return told
+
+
+def tell_agree(table, row):
+    """1 if one of the plans at rest is the best of them for both, else 0."""
+    found = plans_at_rest(table)
+    to_actor = worths_by(table, table.pays, found)
+    to_giver = worths_by(table, table.wants, found)
+    most = (max(to_actor), max(to_giver))
+    return [1 if any([pair == most for pair in zip(to_actor, to_giver)]) else 0]
+
+
+def tell_cost(table, row):
+    """How much more the best of all plans is worth to who acts than the best at rest."""
+    return [best_to_actor(table) - max(worths_by(table, table.pays, plans_at_rest(table)))]
+
+
+def tell_state(table, row):
+    """All that there is: how many, weights, pays, wants and the plan."""
+    sizes = [table.ways, table.signs, table.acts]
+    return sizes + table.weights + table.pays + table.wants + table.given + table.done
 
 
 CALLS = {
@@ -104,6 +184,15 @@ CALLS = {
     7: tell_rest,
     8: tell_better,
     9: tell_rests,
+    10: tell_mosttold,
+    11: tell_bestgiver,
+    12: tell_bestactor,
+    13: tell_nothing,
+    14: tell_honest,
+    15: tell_envies,
+    16: tell_agree,
+    17: tell_cost,
+    18: tell_state,
 }
 
 

@@ -62,14 +62,28 @@ def all_rows(length, below):
     return rows
 
 
-def plans_at_rest(table):
-    """All plans at rest for both, in order, each as its signs and its acts."""
+def all_plans(table):
+    """All plans in order, each as its signs and its acts."""
     found = []
     for given in all_rows(table.ways, table.signs):
         for done in all_rows(table.signs, table.acts):
-            if rests_for_both(table, given, done):
-                found.append((given, done))
+            found.append((given, done))
     return found
+
+
+def plans_at_rest(table):
+    """All plans at rest for both, in order: never none, as to tell nothing is at rest for both."""
+    return [plan for plan in all_plans(table) if rests_for_both(table, plan[0], plan[1])]
+
+
+def worths_by(table, numbers, found):
+    """What each of these plans is worth by the pays or by the wants."""
+    return [worth_by(table, numbers, plan[0], plan[1]) for plan in found]
+
+
+def best_to_actor(table):
+    """What the best of all plans is worth to who acts."""
+    return max([most_to_actor(table, given) for given in all_rows(table.ways, table.signs)])
 
 
 def told_apart(given):
